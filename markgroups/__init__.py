@@ -1,0 +1,1 @@
+"""What things have in common: tables of things and their marks."""

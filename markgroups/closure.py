@@ -1,0 +1,48 @@
+"""Sets of marks as numbers (bit i for mark i), and their closures in a table.
+
+A table is given here by its things, a list with the set of marks of each, and by the set of all its marks.
+"""
+
+
+def has_all(owned, marks):
+    return (owned & marks) == marks
+
+
+def closure_of(things, all_marks, marks):
+    # Beginning with all marks is what a set that no thing has is owed.
+    common = all_marks
+    for owned in things:
+        if has_all(owned, marks):
+            common = common & owned
+    return common
+
+
+def things_having(things, marks):
+    """How many things have all of the marks, and these, bit i for thing i."""
+    amount = 0
+    having = 0
+    bit = 1
+    for owned in things:
+        if has_all(owned, marks):
+            amount += 1
+            having = having | bit
+        bit = bit * 2
+    return (amount, having)
+
+
+def closed_behind(things, all_marks, marks):
+    """The smallest closed set that is a greater number than marks, which need not be closed; None if there's none.
+
+    A greater number has one highest mark more, and above it the same marks. All closed sets with these have their
+    closure within them, so it's the smallest of them, if it brings no further mark above. The lower the mark that
+    is more, the smaller the number: so the lowest marks are tried first.
+    """
+    bit = 1
+    while bit <= all_marks:
+        if not has_all(marks, bit):
+            wanted = marks // bit + 1
+            closed = closure_of(things, all_marks, wanted * bit)
+            if closed // bit == wanted:
+                return closed
+        bit = bit * 2
+    return None
