@@ -9,7 +9,7 @@ def has_all(owned, marks):
 
 
 def closure_of(things, all_marks, marks):
-    # Beginning with all marks is what a set that no thing has is owed.
+    # From all marks on, because that is the closure of a set that no thing has.
     common = all_marks
     for owned in things:
         if has_all(owned, marks):
