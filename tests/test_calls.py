@@ -2,16 +2,10 @@
 
 import unittest
 
-from tests.calls import BEGIN, close, each_answer, following, having, last_answer, marks, table_of, thing
+from tests.calls import BEGIN, LEAST, MOST, MOST_SET, SMALL
+from tests.calls import close, each_answer, following, having, last_answer, marks, table_of, thing
 
-LEAST = -2147483648
-MOST = 2147483647
-MOST_SET = 4294967295
 WITH_A_SET = (thing, close, having, following)
-
-# Three marks; who has mark 0 has mark 1 too, and mark 2 is had alone.
-# Closed: 0, 2 (mark 1), 3, 4 and 7.
-SMALL = [0b011, 0b010, 0b100]
 
 
 class BeginAndCommonRefusals(unittest.TestCase):
